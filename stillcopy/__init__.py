@@ -1,0 +1,1 @@
+"""Stillcopy: a store that is copied and led together while it is used."""

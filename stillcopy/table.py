@@ -1,0 +1,88 @@
+"""The table behind a number of entries."""
+
+from stillcopy.deeds import is_shown, rows_behind, shown_worth
+from stillcopy.limits import HANDS_PAGE, KEYS_OF_A_PAGE
+
+
+class Table:
+    """The rows of the keys, the moment, and each hand's last letter.
+
+    Rows that have ended lie in it till their page is tidied.
+    """
+
+    def __init__(self):
+        self.number = 0
+        self.moment = 0
+        self.rows = {}
+        self.hands = {}
+
+    def twin(self):
+        """A table like this one, which may go on by itself."""
+        other = Table()
+        other.number = self.number
+        other.moment = self.moment
+        other.rows = dict(self.rows)
+        other.hands = dict(self.hands)
+        return other
+
+    def take(self, entry):
+        """Goes on to the table behind one more entry, a deal's or a tick's."""
+        self.number += 1
+        if entry[0] == "tick":
+            self.moment = entry[1]
+        else:
+            self.take_deal(entry)
+
+    def take_deal(self, entry):
+        """Does what is in a deal's entry, or nothing of it."""
+        word, hand, letter, deeds = entry
+        behind = rows_behind(self.rows, deeds, self.moment)
+        if behind is not None:
+            self.rows = behind
+        self.hands[hand] = (letter, self.number, behind is not None)
+
+    def worth(self, key):
+        """What the key shows, None for none."""
+        return shown_worth(self.rows, key, self.moment)
+
+    def last_letter(self, hand):
+        """The hand's last letter, 0 if it has not dealt."""
+        return self.hands[hand][0] if hand in self.hands else 0
+
+    def page_rows(self, page):
+        """All rows that are kept in a page of keys, ended ones too."""
+        first = page * KEYS_OF_A_PAGE
+        return tuple((key, *self.rows[key]) for key in range(first, first + KEYS_OF_A_PAGE) if key in self.rows)
+
+    def hand_rows(self):
+        """Each hand's last letter, with what it told."""
+        return tuple((hand, *self.hands[hand]) for hand in sorted(self.hands))
+
+    def kept(self, page):
+        """The page as it is written out."""
+        if page == HANDS_PAGE:
+            return (self.moment, self.hand_rows())
+        return self.page_rows(page)
+
+    def shown(self, page, moment):
+        """The page as a copy of that moment tells it, if nothing else has changed."""
+        content = self.kept(page)
+        if page == HANDS_PAGE:
+            return content
+        return tuple(row for row in content if is_shown(row[2], moment))
+
+    def fill(self, page, content):
+        """Lays into the table what was kept of a page."""
+        if page == HANDS_PAGE:
+            self.moment, hand_rows = content
+            for hand, letter, number, done in hand_rows:
+                self.hands[hand] = (letter, number, done)
+        else:
+            for key, worth, end in content:
+                self.rows[key] = (worth, end)
+
+    def shed(self, page):
+        """Lets go the rows of a page that have ended; page 8 has no rows that end."""
+        for key, worth, end in self.page_rows(page):
+            if not is_shown(end, self.moment):
+                del self.rows[key]
