@@ -1,7 +1,7 @@
 """Deals: what is one, and what rows are behind one."""
 
-from stillcopy.errors import BadDeal
-from stillcopy.limits import LAST_KEY, LAST_WORTH, MOST_DEEDS, within
+from stillcopy.errors import BadDeal, BadHand, BadKey
+from stillcopy.limits import LAST_HAND, LAST_KEY, LAST_WORTH, MOST_DEEDS, within
 
 # The words, each with the least and the greatest number that its parts may be.
 BOUNDS = {
@@ -10,6 +10,18 @@ BOUNDS = {
     "add": ((0, 31), (-999, 999)),
     "if": ((0, 31), (0, 999)),
 }
+
+
+def check_hand(hand):
+    """BadHand if there is no such hand."""
+    if not within(hand, 0, LAST_HAND):
+        raise BadHand("there is no such hand")
+
+
+def check_key(key):
+    """BadKey if there is no such key."""
+    if not within(key, 0, LAST_KEY):
+        raise BadKey("there is no such key")
 
 
 def is_deed(deed):

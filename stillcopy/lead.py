@@ -1,23 +1,10 @@
 """The lead: the house that takes deals and ticks."""
 
 from stillcopy.copies import Shelf
-from stillcopy.deeds import check_deal
-from stillcopy.errors import BadHand, BadHouse, BadKey, BadLetter, BadTime, Behind
-from stillcopy.limits import (HANDS_PAGE, LAST_HAND, LAST_KEY, LAST_MOMENT, MOST_DEALS, MOST_ENTRIES, MOST_HOUSES,
-                              PAGES, within)
+from stillcopy.deeds import check_deal, check_hand
+from stillcopy.errors import BadHouse, BadKey, BadLetter, BadTime
+from stillcopy.limits import HANDS_PAGE, LAST_HAND, LAST_MOMENT, MOST_DEALS, MOST_ENTRIES, MOST_HOUSES, PAGES, within
 from stillcopy.store import Store
-from stillcopy.table import Table
-
-
-def stored_table(store):
-    """The table as it is on the disk."""
-    table = Table()
-    table.number = store.last_number()
-    for page in range(PAGES):
-        content = store.page_content(page)
-        if content is not None:
-            table.fill(page, content)
-    return table
 
 
 def check_page(page):
@@ -38,7 +25,7 @@ class Lead:
         if not within(houses, 0, MOST_HOUSES):
             raise BadHouse("there can't be so many followers")
         self.houses = houses
-        self.table = stored_table(self.store)
+        self.table = self.store.stored_table()
         self.entries = self.store.last_entries()
         self.shelf = Shelf()
         # How much each follower knew at least, of those that were heard of.
@@ -66,7 +53,7 @@ class Lead:
                 entries.append((trial.number, entry))
             told.append(trial.hands[hand][1:])
         if entries:
-            self.go_on(trial, entries)
+            self.change_over(trial, self.table.unlike(trial), entries)
         return told
 
     def deal(self, hand, letter, deeds):
@@ -80,29 +67,23 @@ class Lead:
         trial = self.table.twin()
         entry = ("tick", moment)
         trial.take(entry)
-        self.go_on(trial, [(trial.number, entry)])
+        self.change_over(trial, self.table.unlike(trial), [(trial.number, entry)])
         return trial.number
 
     def read(self, key, token):
         """(number, worth) of a key, for one that has seen as many entries as the token tells."""
-        if not within(key, 0, LAST_KEY):
-            raise BadKey("there is no such key")
-        if token > self.table.number:
-            raise Behind(self.table.number)
-        return (self.table.number, self.table.worth(key))
+        return self.table.told_of(key, token)
 
     def whole(self):
         """(moment, rows, hands): all that is shown."""
-        table = self.table
-        rows = [row for page in range(HANDS_PAGE) for row in table.shown(page, table.moment)]
-        return (table.moment, rows, list(table.hand_rows()))
+        return self.table.told_whole()
 
     def tidy(self, page):
         """Writes a page out without the rows that have ended."""
         check_page(page)
         trial = self.table.twin()
         trial.shed(page)
-        self.change_over(trial, [page], [])
+        self.change_over(trial, [(page, trial.kept(page))], [])
 
     def kept_rows(self, page):
         """How many rows are kept in a page, ended ones too; of page 8, how many hands."""
@@ -163,21 +144,15 @@ class Lead:
             raise BadLetter("these are too many deals at once")
         ahead = {hand: self.table.last_letter(hand) for hand in range(LAST_HAND + 1)}
         for hand, letter, deeds in group:
-            if not within(hand, 0, LAST_HAND):
-                raise BadHand("there is no such hand")
+            check_hand(hand)
             if not within(letter, max(1, ahead[hand]), ahead[hand] + 1):
                 raise BadLetter("it is neither the last letter nor the next one")
             check_deal(deeds)
             ahead[hand] = letter
 
-    def go_on(self, trial, entries):
-        """Goes on to the table behind these entries."""
-        pages = [page for page in range(PAGES) if trial.kept(page) != self.table.kept(page)]
-        self.change_over(trial, pages, entries)
-
     def change_over(self, trial, pages, entries):
         """Settles what is new in the trial, and then takes it for the table."""
-        self.store.put(trial.number, [(page, trial.kept(page)) for page in pages], entries)
+        self.store.put(trial.number, pages, entries)
         self.shelf.follow(self.table, trial)
         self.table = trial
         self.entries = (self.entries + entries)[-MOST_ENTRIES:]

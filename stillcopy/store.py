@@ -1,10 +1,13 @@
 """What a house has on its disk."""
 
 from stillcopy.errors import Stopped
-from stillcopy.limits import MOST_ENTRIES
+from stillcopy.limits import MOST_ENTRIES, PAGES
+from stillcopy.table import Table
 
 ROOT = 0
 FIRST_ENTRY = 1
+# A follower keeps no entries: what it gathers lies in their place.
+FIRST_GATHERED = 1
 FIRST_PAGE = 17
 
 NEW_ROOT = (0, 0, (0, 0, 0, 0, 0, 0, 0, 0, 0))
@@ -62,13 +65,17 @@ class Store:
         self.disk.settle()
         self.root = root
 
-    def last_number(self):
-        """The number of the last entry that counts."""
-        return self.root[1]
-
-    def page_content(self, page):
-        """The page as it was written out last, None if it never was."""
-        return self.disk.read(page_block(page, self.root[2][page]))
+    def stored_table(self):
+        """The table that counts."""
+        run, number, places = self.root
+        table = Table()
+        table.number = number
+        for page in range(PAGES):
+            content = self.disk.read(page_block(page, places[page]))
+            # None is there where the page was never written out.
+            if content is not None:
+                table.fill(page, content)
+        return table
 
     def last_entries(self):
         """(number, entry) of the last entries, as far back as all are there.
@@ -77,10 +84,22 @@ class Store:
         old ones. Their numbers, above the last one that counts, tell them.
         """
         found = []
-        last = self.last_number()
+        last = self.root[1]
         for number in range(last, max(0, last - MOST_ENTRIES), -1):
             block = self.disk.read(entry_block(number))
             if block[0] != number:
                 break
             found.append(block)
         return found[::-1]
+
+    def put_aside(self, number, page, content):
+        """Settles a page of a later number beside the table."""
+        self.check_held()
+        self.disk.write(FIRST_GATHERED + page, (number, content))
+        self.disk.settle()
+
+    def gathered_pages(self):
+        """(number, pages) of the latest number of which pages were put aside; pages tells their contents."""
+        blocks = [self.disk.read(FIRST_GATHERED + page) for page in range(PAGES)]
+        latest = max([0] + [block[0] for block in blocks if block])
+        return (latest, {page: block[1] for page, block in enumerate(blocks) if block and block[0] == latest})

@@ -1,7 +1,8 @@
 """The table behind a number of entries."""
 
-from stillcopy.deeds import is_shown, rows_behind, shown_worth
-from stillcopy.limits import HANDS_PAGE, KEYS_OF_A_PAGE
+from stillcopy.deeds import check_key, is_shown, rows_behind, shown_worth
+from stillcopy.errors import Behind
+from stillcopy.limits import HANDS_PAGE, KEYS_OF_A_PAGE, PAGES
 
 
 class Table:
@@ -41,9 +42,17 @@ class Table:
             self.rows = behind
         self.hands[hand] = (letter, self.number, behind is not None)
 
-    def worth(self, key):
-        """What the key shows, None for none."""
-        return shown_worth(self.rows, key, self.moment)
+    def told_of(self, key, token):
+        """(number, worth) of a key, for one that has seen as many entries as the token tells."""
+        check_key(key)
+        if token > self.number:
+            raise Behind(self.number)
+        return (self.number, shown_worth(self.rows, key, self.moment))
+
+    def told_whole(self):
+        """(moment, rows, hands): all that is shown."""
+        rows = [row for page in range(HANDS_PAGE) for row in self.shown(page, self.moment)]
+        return (self.moment, rows, list(self.hand_rows()))
 
     def last_letter(self, hand):
         """The hand's last letter, 0 if it has not dealt."""
@@ -70,6 +79,10 @@ class Table:
         if page == HANDS_PAGE:
             return content
         return tuple(row for row in content if is_shown(row[2], moment))
+
+    def unlike(self, other):
+        """(page, content) of the other table's pages that are kept otherwise than this one's."""
+        return [(page, other.kept(page)) for page in range(PAGES) if other.kept(page) != self.kept(page)]
 
     def fill(self, page, content):
         """Lays into the table what was kept of a page."""

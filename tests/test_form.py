@@ -10,7 +10,9 @@ import pathlib
 import re
 import unittest
 
+from stillcopy import judge, texts
 from stillcopy.disk import Disk
+from stillcopy.follow import Follower
 from stillcopy.lead import Lead
 
 PACKAGE = pathlib.Path(__file__).resolve().parent.parent / "stillcopy"
@@ -47,6 +49,11 @@ INTERFACE = {
     Lead: ["__init__(disk, houses)", "known()", "clock()", "deals(group)", "deal(hand, letter, deeds)", "tick(moment)",
            "read(key, token)", "whole()", "tidy(page)", "close(name)", "heard(house, answer)", "kept_rows(page)",
            "copy()", "read_page(name, page)", "room()", "open_copies()", "letters(house)"],
+    Follower: ["__init__(disk)", "known()", "clock()", "read(key, token)", "whole()", "hear(letter)", "answer()"],
+}
+FUNCTIONS = {
+    judge: ["judge(entries, readings)"],
+    texts: ["written(deals)", "read_deals(text)"],
 }
 
 
@@ -190,7 +197,13 @@ class Form(unittest.TestCase):
                 method = vars(owner)[name]
                 names = list(inspect.signature(method).parameters)
                 self.assertEqual(", ".join(names[1:]), handed, signature)
-        self.assertEqual((Disk.__module__, Lead.__module__), ("stillcopy.disk", "stillcopy.lead"))
+        self.assertEqual([owner.__module__ for owner in INTERFACE], ["stillcopy.disk", "stillcopy.lead", "stillcopy.follow"])
+        for module, wanted in FUNCTIONS.items():
+            for signature in wanted:
+                name, handed = signature[:-1].split("(")
+                function = vars(module)[name]
+                self.assertEqual(", ".join(inspect.signature(function).parameters), handed, signature)
+                self.assertEqual(function.__module__, module.__name__)
 
 
 if __name__ == "__main__":

@@ -1,29 +1,14 @@
-"""Points 12 to 14, so far as they tell of the lead."""
+"""Points 12 and 13: what the lead sends."""
 
 import unittest
 
 from stillcopy.disk import Disk
 from stillcopy.errors import BadHouse
 from stillcopy.lead import Lead
-from tests.helpers import WatchedDisk, all_of, disk_of, put, seen
+from tests.helpers import WatchedDisk, all_of, disk_of, fed, put, seen
 from tests.model import model_behind
 
 BAD_NUMBERS = (-1, True, False, 10 ** 19)
-
-
-def fed(lead, count):
-    """Lets the lead take so many more entries; tells them."""
-    entries = []
-    for at in range(count):
-        moment = lead.clock() + 1
-        if at % 3 == 2:
-            lead.tick(moment)
-            entries.append(("tick", moment))
-        else:
-            letter = 1 + sum([row[1] for row in lead.whole()[2] if row[0] == 0])
-            lead.deal(0, letter, put(letter % 32, letter, letter % 4))
-            entries.append(("deal", 0, letter, put(letter % 32, letter, letter % 4)))
-    return entries
 
 
 class Letters(unittest.TestCase):

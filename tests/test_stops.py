@@ -5,7 +5,8 @@ import unittest
 from stillcopy.disk import Disk
 from stillcopy.errors import BadHouse, BadKey, StillError, Stopped
 from stillcopy.lead import Lead
-from tests.helpers import (PICKS, all_of, any_group, disk_of, is_model, lead_again, put, seen, seeded, stopped_at)
+from tests.helpers import (PICKS, all_of, any_group, disk_of, is_model, lead_again, put, seen, seeded, stopped_at,
+                           take)
 from tests.model import model_behind
 
 FIRST = [
@@ -14,15 +15,6 @@ FIRST = [
 ]
 # More than sixteen, so that the places of entries are used again.
 LONG = FIRST + [("deal", 2, letter, put(letter, letter, letter % 4)) for letter in range(1, 14)] + [("tick", 7)]
-
-
-def take(lead, entries):
-    """Hands the entries to the lead, one after the other."""
-    for entry in entries:
-        if entry[0] == "tick":
-            lead.tick(entry[1])
-        else:
-            lead.deal(*entry[1:])
 
 
 def disk_behind(entries):
