@@ -52,12 +52,14 @@ def all_of(lead):
             [lead.letters(house) for house in range(lead.houses)])
 
 
+def told_by(model):
+    """What a house with the model's table tells."""
+    return (model.known(), model.moment, model.whole(), [(model.known(), model.shows(key)) for key in range(32)])
+
+
 def is_model(house, model):
     """Whether the house has the model's table."""
-    if house.known() != model.known():
-        return False
-    return seen(house) == (model.known(), model.moment, model.whole(),
-                           [(model.known(), model.shows(key)) for key in range(32)])
+    return house.known() == model.known() and seen(house) == told_by(model)
 
 
 def stopped_at(call):

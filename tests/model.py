@@ -92,9 +92,9 @@ class Model:
                     for page, told in pages.items() if told != self.page(page, moment)})
 
 
-def model_behind(entries):
-    """The model behind these entries."""
-    model = Model()
+def model_behind(entries, model=None):
+    """The model behind these entries; a model that is handed in goes on by them."""
+    model = model or Model()
     for entry in entries:
         if entry[0] == "tick":
             model.tick(entry[1])
