@@ -341,6 +341,23 @@ class CaughtUp(Checked):
                     self.hear_all(follower, pages[newer], ENTRIES)
                     self.assertEqual(follower.known(), newer)
 
+    def test_older_pages_amid_newer_ones(self):
+        pages = self.pages_at((40, 60))
+        for cut in range(1, 9):
+            follower = Follower(Disk())
+            self.hear_all(follower, pages[60][:cut] + pages[40][:8] + pages[60][cut:], ENTRIES)
+            self.assertEqual(follower.known(), 60)
+
+    def test_pages_that_are_known_write_nothing(self):
+        pages = self.pages_at((40, 60))
+        disk = WatchedDisk()
+        follower = Follower(disk)
+        self.hear_all(follower, pages[40] + pages[60], ENTRIES)
+        before, blocks = seen(follower), disk.settled()
+        disk.asked = 0
+        self.hear_all(follower, pages[60] + pages[40] + pages[60][::-1], ENTRIES)
+        self.assertEqual((seen(follower), disk.settled(), disk.asked), (before, blocks, 0))
+
     def test_pages_twice(self):
         pages = self.pages_at((40,))[40]
         for left_out in range(9):
