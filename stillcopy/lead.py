@@ -90,7 +90,7 @@ class Lead:
         check_page(page)
         if page == HANDS_PAGE:
             return len(self.table.hands)
-        return len(self.table.page_rows(page))
+        return len(self.table.kept(page))
 
     def copy(self):
         """Begins a copy; tells (name, number)."""

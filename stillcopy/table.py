@@ -8,7 +8,8 @@ from stillcopy.limits import HANDS_PAGE, KEYS_OF_A_PAGE, PAGES
 class Table:
     """The rows of the keys, the moment, and each hand's last letter.
 
-    Rows that have ended lie in it till their page is tidied.
+    It is made by the entries alone: a row that has ended stays in it, also
+    when it is not kept in its page any more, as copies may still tell it.
     """
 
     def __init__(self):
@@ -16,6 +17,8 @@ class Table:
         self.moment = 0
         self.rows = {}
         self.hands = {}
+        # Rows that have ended and aren't kept any more, by their keys; what is put later is never like them.
+        self.gone = {}
 
     def twin(self):
         """A table like this one, which may go on by itself."""
@@ -24,6 +27,7 @@ class Table:
         other.moment = self.moment
         other.rows = dict(self.rows)
         other.hands = dict(self.hands)
+        other.gone = dict(self.gone)
         return other
 
     def take(self, entry):
@@ -59,7 +63,7 @@ class Table:
         return self.hands[hand][0] if hand in self.hands else 0
 
     def page_rows(self, page):
-        """All rows that are kept in a page of keys, ended ones too."""
+        """All rows of a page of keys, ended ones too."""
         first = page * KEYS_OF_A_PAGE
         return tuple((key, *self.rows[key]) for key in range(first, first + KEYS_OF_A_PAGE) if key in self.rows)
 
@@ -71,14 +75,13 @@ class Table:
         """The page as it is written out."""
         if page == HANDS_PAGE:
             return (self.moment, self.hand_rows())
-        return self.page_rows(page)
+        return tuple(row for row in self.page_rows(page) if self.gone.get(row[0]) != row)
 
     def shown(self, page, moment):
         """The page as a copy of that moment tells it, if nothing else has changed."""
-        content = self.kept(page)
         if page == HANDS_PAGE:
-            return content
-        return tuple(row for row in content if is_shown(row[2], moment))
+            return self.kept(page)
+        return tuple(row for row in self.page_rows(page) if is_shown(row[2], moment))
 
     def unlike(self, other):
         """(page, content) of the other table's pages that are kept otherwise than this one's."""
@@ -95,7 +98,7 @@ class Table:
                 self.rows[key] = (worth, end)
 
     def shed(self, page):
-        """Lets go the rows of a page that have ended; page 8 has no rows that end."""
-        for key, worth, end in self.page_rows(page):
-            if not is_shown(end, self.moment):
-                del self.rows[key]
+        """Lets the rows that have ended go from a page; page 8 has no rows that end."""
+        for row in self.page_rows(page):
+            if not is_shown(row[2], self.moment):
+                self.gone[row[0]] = row

@@ -54,7 +54,8 @@ def all_of(lead):
 
 def told_by(model):
     """What a house with the model's table tells."""
-    return (model.known(), model.moment, model.whole(), [(model.known(), model.shows(key)) for key in range(32)])
+    worths = {key: worth for key, worth, end in model.whole()[1]}
+    return (model.known(), model.moment, model.whole(), [(model.known(), worths.get(key)) for key in range(32)])
 
 
 def is_model(house, model):

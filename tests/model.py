@@ -67,10 +67,6 @@ class Model:
         self.moment = moment
         return len(self.entries)
 
-    def tidy(self, page):
-        self.rows = {key: (worth, end) for key, (worth, end) in self.rows.items()
-                     if key // 4 != page or end == 0 or end > self.moment}
-
     def copy(self):
         name = self.begun
         self.begun += 1

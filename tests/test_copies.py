@@ -272,12 +272,28 @@ class Room(unittest.TestCase):
         self.lead.tick(5)
         self.begin()
         self.lead.tidy(0)
-        self.assertEqual((self.lead.kept_rows(0), self.aside()), (0, 1))
+        self.assertEqual((self.lead.kept_rows(0), self.aside()), (0, 0))
         self.lead.tidy(1)
-        self.assertEqual((self.lead.kept_rows(1), self.aside()), (1, 1))
+        self.assertEqual((self.lead.kept_rows(1), self.aside()), (1, 0))
         self.assertEqual(self.lead.read_page(1, 0), ())
         self.assertEqual(self.lead.read_page(0, 0), ((0, 1, 5),))
         self.assertEqual(self.aside(), 0)
+
+    def test_rows_that_were_tidied_and_changed_then(self):
+        for deal in (put(0, 1, 5), put(0, 1), (("drop", 0),), put(0, 1, 5) + (("drop", 0),)):
+            self.setUp()
+            self.done(put(0, 1, 5) + put(1, 2, 5))
+            self.begin()
+            self.lead.tick(5)
+            self.lead.tidy(0)
+            self.done((("drop", 2), ("if", 0, None)))
+            self.assertEqual((self.lead.kept_rows(0), self.aside()), (0, 0))
+            self.done(deal)
+            self.assertEqual(self.aside(), 1)
+            self.lead.tidy(0)
+            self.assertEqual((self.lead.kept_rows(0), self.aside()), (1 if deal[-1][0] == "put" else 0, 1))
+            self.assertEqual(self.lead.read_page(0, 0), ((0, 1, 5), (1, 2, 5)))
+            self.assertEqual(self.aside(), 0)
 
     def test_page_8(self):
         self.done(put(0, 1))
@@ -337,8 +353,8 @@ class Walk(unittest.TestCase):
 
     def do_tidy(self):
         page = self.chance.randint(0, 8)
+        # The model knows nothing of it: nothing but kept_rows is changed by it.
         self.lead.tidy(page)
-        self.model.tidy(page)
         if page < 8:
             self.assertEqual(self.lead.kept_rows(page), len(self.model.page(page, self.model.moment)))
 

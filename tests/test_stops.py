@@ -35,9 +35,10 @@ class EveryStop(unittest.TestCase):
     def check_every_stop(self, entries, pending, deed):
         """Stops the disk at every deed of the disk within this deed of the lead."""
         stopped_once = False
+        blocks = disk_behind(entries).settled()
         for picks in PICKS:
             for count in range(200):
-                disk = disk_behind(entries)
+                disk = disk_of(blocks)
                 lead = Lead(disk, 1)
                 before = seen(lead)
                 disk.arm(count, picks)
