@@ -50,11 +50,12 @@ class Follower:
     def hear(self, letter):
         """Takes a letter of the lead; one that is of no use now changes nothing."""
         self.store.check_held()
-        word, number, *parts = letter
-        if word == "entry":
-            self.hear_entry(number, *parts)
+        if letter[0] == "entry":
+            word, number, entry = letter
+            self.hear_entry(number, entry)
         else:
-            self.hear_page(number, *parts)
+            word, number, page, content = letter
+            self.hear_page(number, page, content)
 
     def hear_entry(self, number, entry):
         """Goes on by an entry, if it is the next one."""
