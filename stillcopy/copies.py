@@ -7,9 +7,8 @@ from stillcopy.limits import PAGES, within
 class Copy:
     """A copy that is begun: the pages that it wants, and those of them that are kept aside."""
 
-    def __init__(self, number, moment):
+    def __init__(self, number):
         self.number = number
-        self.moment = moment
         self.wanted = list(range(PAGES))
         self.aside = {}
 
@@ -17,13 +16,15 @@ class Copy:
         """What the copy is to tell of the page, the table being the present one."""
         if page in self.aside:
             return self.aside[page]
-        return table.shown(page, self.moment)
+        return table.shown(page)
 
     def follow(self, old, new):
         """Keeps aside just what the new table doesn't tell any more."""
         for page in self.wanted:
             told = self.page_of(old, page)
-            if told == new.shown(page, self.moment):
+            # A row that has ended is not told now, though the copy's moment may be ahead of its end:
+            # else what is kept aside would hang on whether the row was written out.
+            if told == new.shown(page):
                 self.aside.pop(page, None)
             else:
                 self.aside[page] = told
@@ -45,7 +46,7 @@ class Shelf:
         """Begins a copy of the table and tells its name."""
         name = self.begun
         self.begun += 1
-        self.copies[name] = Copy(table.number, table.moment)
+        self.copies[name] = Copy(table.number)
         return name
 
     def find_copy(self, name):

@@ -125,7 +125,7 @@ class Lead:
         lacking = [("entry", at, entry) for at, entry in self.entries if at > knows]
         if len(lacking) >= number - knows:
             return lacking
-        return [("page", number, page, self.table.shown(page, self.table.moment)) for page in range(PAGES)]
+        return [("page", number, page, self.table.shown(page)) for page in range(PAGES)]
 
     def heard(self, house, answer):
         """Takes a follower's answer, whose first part tells how many entries it knows."""

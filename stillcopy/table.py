@@ -8,8 +8,8 @@ from stillcopy.limits import HANDS_PAGE, KEYS_OF_A_PAGE, PAGES
 class Table:
     """The rows of the keys, the moment, and each hand's last letter.
 
-    It is made by the entries alone: a row that has ended stays in it, also
-    when it is not kept in its page any more, as copies may still tell it.
+    A row that has ended may stay in it for a while, or be let go: nothing but
+    how many rows are kept tells which.
     """
 
     def __init__(self):
@@ -17,8 +17,6 @@ class Table:
         self.moment = 0
         self.rows = {}
         self.hands = {}
-        # Rows that have ended and aren't kept any more, by their keys; what is put later is never like them.
-        self.gone = {}
 
     def twin(self):
         """A table like this one, which may go on by itself."""
@@ -27,7 +25,6 @@ class Table:
         other.moment = self.moment
         other.rows = dict(self.rows)
         other.hands = dict(self.hands)
-        other.gone = dict(self.gone)
         return other
 
     def take(self, entry):
@@ -55,7 +52,7 @@ class Table:
 
     def told_whole(self):
         """(moment, rows, hands): all that is shown."""
-        rows = [row for page in range(HANDS_PAGE) for row in self.shown(page, self.moment)]
+        rows = [row for page in range(HANDS_PAGE) for row in self.shown(page)]
         return (self.moment, rows, list(self.hand_rows()))
 
     def last_letter(self, hand):
@@ -75,13 +72,13 @@ class Table:
         """The page as it is written out."""
         if page == HANDS_PAGE:
             return (self.moment, self.hand_rows())
-        return tuple(row for row in self.page_rows(page) if self.gone.get(row[0]) != row)
+        return self.page_rows(page)
 
-    def shown(self, page, moment):
-        """The page as a copy of that moment tells it, if nothing else has changed."""
+    def shown(self, page):
+        """What is told of the page: rows that have ended aren't, whether they are kept or not."""
         if page == HANDS_PAGE:
             return self.kept(page)
-        return tuple(row for row in self.page_rows(page) if is_shown(row[2], moment))
+        return tuple(row for row in self.page_rows(page) if is_shown(row[2], self.moment))
 
     def unlike(self, other):
         """(page, content) of the other table's pages that are kept otherwise than this one's."""
@@ -101,4 +98,4 @@ class Table:
         """Lets the rows that have ended go from a page; page 8 has no rows that end."""
         for row in self.page_rows(page):
             if not is_shown(row[2], self.moment):
-                self.gone[row[0]] = row
+                del self.rows[row[0]]

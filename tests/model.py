@@ -71,21 +71,22 @@ class Model:
         name = self.begun
         self.begun += 1
         pages = {page: self.page(page, self.moment) for page in range(9)}
-        self.copies[name] = (len(self.entries), self.moment, pages)
+        self.copies[name] = (len(self.entries), pages)
         return (name, len(self.entries))
 
     def read_page(self, name, page):
-        told = self.copies[name][2].pop(page)
-        if not self.copies[name][2]:
+        told = self.copies[name][1].pop(page)
+        if not self.copies[name][1]:
             del self.copies[name]
         return told
 
     def open_copies(self):
-        return [(name, number, sorted(pages)) for name, (number, moment, pages) in sorted(self.copies.items())]
+        return [(name, number, sorted(pages)) for name, (number, pages) in sorted(self.copies.items())]
 
     def aside(self):
-        return len({(page, told) for number, moment, pages in self.copies.values()
-                    for page, told in pages.items() if told != self.page(page, moment)})
+        # Rows that have ended are not told now, whatever a copy's moment: so it can't hang on tidy.
+        return len({(page, told) for number, pages in self.copies.values()
+                    for page, told in pages.items() if told != self.page(page, self.moment)})
 
 
 def model_behind(entries, model=None):

@@ -253,18 +253,77 @@ class Room(unittest.TestCase):
         self.lead.deal(0, 1, put(0, 1) + (("if", 0, 2),))
         self.assertEqual(self.aside(), 0)
 
+    def check_written_out(self, pages, aside):
+        """So much is kept aside, and as much when the pages were written out."""
+        self.assertEqual(self.aside(), aside)
+        for page in pages:
+            self.lead.tidy(page)
+            self.assertEqual(self.aside(), aside)
+
     def test_rows_that_end(self):
-        self.done(put(0, 1, 5) + put(4, 1, 9))
-        self.begin()
-        self.lead.tick(5)
-        self.assertEqual(self.aside(), 0)
-        later = self.begin()
-        self.lead.tick(9)
-        self.assertEqual(self.aside(), 0)
-        self.done((("drop", 0),))
-        self.assertEqual(self.aside(), 1)
-        self.lead.close(later)
-        self.assertEqual(self.aside(), 1)
+        for pages in ([], PAGES):
+            self.setUp()
+            self.done(put(0, 1, 5) + put(4, 1, 9) + put(1, 2))
+            first = self.begin()
+            self.lead.tick(4)
+            self.check_written_out(pages, 0)
+            self.lead.tick(5)
+            self.check_written_out(pages, 1)
+            later = self.begin()
+            self.check_written_out(pages, 1)
+            self.lead.tick(9)
+            self.check_written_out(pages, 2)
+            self.done((("drop", 0), ("drop", 4)))
+            self.check_written_out(pages, 2)
+            self.lead.close(first)
+            self.check_written_out(pages, 1)
+            self.assertEqual(self.lead.read_page(later, 0), ((1, 2, 0),))
+            self.assertEqual(self.lead.read_page(later, 1), ((4, 1, 9),))
+            self.check_written_out(pages, 0)
+
+    def test_rows_that_a_copy_never_had_and_that_end(self):
+        for pages in ([], PAGES):
+            self.setUp()
+            self.done(put(1, 2))
+            self.begin()
+            self.done(put(0, 5, 1) + put(4, 5, 2))
+            self.check_written_out(pages, 2)
+            self.lead.tick(1)
+            self.check_written_out(pages, 1)
+            self.lead.tick(2)
+            self.check_written_out(pages, 0)
+            self.assertEqual([self.lead.kept_rows(page) for page in (0, 1)], [1, 0] if pages else [2, 1])
+            self.assertEqual([self.lead.read_page(0, page) for page in (0, 1)], [((1, 2, 0),), ()])
+
+    def test_a_row_put_over_one_that_has_ended(self):
+        for pages in ([], PAGES):
+            self.setUp()
+            self.done(put(0, 1, 5))
+            self.begin()
+            self.lead.tick(5)
+            self.begin()
+            self.check_written_out(pages, 1)
+            self.done(put(0, 1, 5))
+            self.check_written_out(pages, 2)
+            self.lead.tick(10)
+            self.check_written_out(pages, 1)
+            self.assertEqual(self.lead.read_page(0, 0), ((0, 1, 5),))
+            self.assertEqual(self.lead.read_page(1, 0), ())
+            self.check_written_out(pages, 0)
+
+    def test_room_behind_all_pages_written_out(self):
+        for life, moment, room in ((1, 1, (1, 2)), (5, 5, (1, 2)), (5, 4, (2, 2)), (0, 9, (2, 2))):
+            lead = Lead(Disk(), 0)
+            self.assertEqual(lead.copy(), (0, 0))
+            lead.deal(0, 1, put(0, 5, life))
+            self.assertEqual(lead.room(), (2, 1))
+            lead.tick(moment)
+            self.assertEqual(lead.room(), room)
+            for page in PAGES:
+                lead.tidy(page)
+                self.assertEqual(lead.room(), room)
+            self.assertEqual([lead.read_page(0, page) for page in PAGES], [()] * 8 + [(0, ())])
+            self.assertEqual(lead.room(), (0, 2))
 
     def test_rows_that_were_tidied(self):
         self.done(put(0, 1, 5) + put(4, 1, 9))
@@ -272,10 +331,11 @@ class Room(unittest.TestCase):
         self.lead.tick(5)
         self.begin()
         self.lead.tidy(0)
-        self.assertEqual((self.lead.kept_rows(0), self.aside()), (0, 0))
+        self.assertEqual((self.lead.kept_rows(0), self.aside()), (0, 1))
         self.lead.tidy(1)
-        self.assertEqual((self.lead.kept_rows(1), self.aside()), (1, 0))
+        self.assertEqual((self.lead.kept_rows(1), self.aside()), (1, 1))
         self.assertEqual(self.lead.read_page(1, 0), ())
+        self.assertEqual(self.aside(), 1)
         self.assertEqual(self.lead.read_page(0, 0), ((0, 1, 5),))
         self.assertEqual(self.aside(), 0)
 
@@ -287,7 +347,7 @@ class Room(unittest.TestCase):
             self.lead.tick(5)
             self.lead.tidy(0)
             self.done((("drop", 2), ("if", 0, None)))
-            self.assertEqual((self.lead.kept_rows(0), self.aside()), (0, 0))
+            self.assertEqual((self.lead.kept_rows(0), self.aside()), (0, 1))
             self.done(deal)
             self.assertEqual(self.aside(), 1)
             self.lead.tidy(0)
@@ -353,7 +413,7 @@ class Walk(unittest.TestCase):
 
     def do_tidy(self):
         page = self.chance.randint(0, 8)
-        # The model knows nothing of it: nothing but kept_rows is changed by it.
+        # The model knows nothing of it: nothing but kept_rows is changed by it, room neither.
         self.lead.tidy(page)
         if page < 8:
             self.assertEqual(self.lead.kept_rows(page), len(self.model.page(page, self.model.moment)))
@@ -365,7 +425,7 @@ class Walk(unittest.TestCase):
     def do_page(self):
         if self.model.copies:
             name = self.chance.choice(sorted(self.model.copies))
-            page = self.chance.choice(sorted(self.model.copies[name][2]))
+            page = self.chance.choice(sorted(self.model.copies[name][1]))
             self.assertEqual(self.lead.read_page(name, page), self.model.read_page(name, page))
 
     def do_close(self):
